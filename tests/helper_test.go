@@ -19,24 +19,29 @@ const spare = 5
 // guarded is l with poisoned room behind it, and a check that neither the call
 // nor writing all over its answers has changed any of that.
 func guarded(l []impl.Event) ([]impl.Event, func(t *testing.T, answers ...[]impl.Event)) {
-	whole := make([]impl.Event, 0, len(l)+spare)
+	return guardedWith(l, poison, scribble)
+}
+
+// guardedWith is guarded for lists of anything; no element of a test is like behind or over.
+func guardedWith[T comparable](l []T, behind T, over T) ([]T, func(t *testing.T, answers ...[]T)) {
+	whole := make([]T, 0, len(l)+spare)
 	whole = append(whole, l...)
 	for range spare {
-		whole = append(whole, poison)
+		whole = append(whole, behind)
 	}
 	before := slices.Clone(whole)
-	check := func(t *testing.T, answers ...[]impl.Event) {
+	check := func(t *testing.T, answers ...[]T) {
 		t.Helper()
 		if !slices.Equal(whole, before) {
 			t.Fatal("an argument, or the room behind it, was written into")
 		}
 		for _, a := range answers {
 			a = a[:cap(a)]
-			if slices.Contains(a, poison) {
+			if slices.Contains(a, behind) {
 				t.Fatal("what lies behind an argument was handed out")
 			}
 			for i := range a {
-				a[i] = scribble
+				a[i] = over
 			}
 		}
 		if !slices.Equal(whole, before) {
