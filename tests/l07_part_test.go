@@ -334,7 +334,7 @@ func longPart(past int, todo int, antis int) impl.Part {
 	return p
 }
 
-// number is one of a part's, and where it may be.
+// number is one of a part's or a kernel's, and where it may be.
 type number struct {
 	name string
 	span
@@ -347,17 +347,20 @@ var partSpans = map[string]span{
 	"Event.Time": {0, 1000}, "Event.Src": {-1, 3}, "Event.Seq": {0, 100000}, "Event.Dst": {0, 3},
 	"Event.Kind": {0, 3}, "Event.Val": {0, 999}, "Event.Tag": {0, 100000},
 	"Emit.Time": {0, 1000}, "Emit.Lp": {0, 3}, "Emit.Val": {0, 999},
+	"Kernel.D": {-1, 1}, "Kernel.Tag": {6, maxNextTag}, "Kernel.Asks": {-1, 3},
 }
 
-// numbersOf are all numbers of a part, wherever they stand in it.
-func numbersOf(p *impl.Part) []number {
+// numbersOf are all numbers of a part, or of a kernel but for those of its model, wherever they stand in it.
+func numbersOf[T any](p *T) []number {
 	var l []number
 	var walk func(v reflect.Value, name string)
 	walk = func(v reflect.Value, name string) {
 		switch v.Kind() {
 		case reflect.Struct:
 			for i := range v.NumField() {
-				walk(v.Field(i), v.Type().Name()+"."+v.Type().Field(i).Name)
+				if v.Field(i).Type() != reflect.TypeFor[impl.Model]() {
+					walk(v.Field(i), v.Type().Name()+"."+v.Type().Field(i).Name)
+				}
 			}
 		case reflect.Slice:
 			for i := range v.Len() {
@@ -372,14 +375,14 @@ func numbersOf(p *impl.Part) []number {
 }
 
 // withNumber is p with its k-th number changed.
-func withNumber(p impl.Part, k int, x int) impl.Part {
+func withNumber[T any](p T, k int, x int) T {
 	p = plain(p)
 	*numbersOf(&p)[k].x = x
 	return p
 }
 
 // changed is p, as change leaves it.
-func changed(p impl.Part, change func(p *impl.Part)) impl.Part {
+func changed[T any](p T, change func(p *T)) T {
 	p = plain(p)
 	change(&p)
 	return p
