@@ -334,7 +334,7 @@ func longPart(past int, todo int, antis int) impl.Part {
 	return p
 }
 
-// number is one of a part's or a kernel's, and where it may be.
+// number is one of a part's, a kernel's or a world's, and where it may be.
 type number struct {
 	name string
 	span
@@ -348,9 +348,10 @@ var partSpans = map[string]span{
 	"Event.Kind": {0, 3}, "Event.Val": {0, 999}, "Event.Tag": {0, 100000},
 	"Emit.Time": {0, 1000}, "Emit.Lp": {0, 3}, "Emit.Val": {0, 999},
 	"Kernel.D": {-1, 1}, "Kernel.Tag": {6, maxNextTag}, "Kernel.Asks": {-1, 3},
+	"World.Cut": {-1, 1},
 }
 
-// numbersOf are all numbers of a part, or of a kernel but for those of its model, wherever they stand in it.
+// numbersOf are all numbers of a part, a kernel or a world but for those of its model, wherever they stand in it.
 func numbersOf[T any](p *T) []number {
 	var l []number
 	var walk func(v reflect.Value, name string)
